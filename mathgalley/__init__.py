@@ -1,0 +1,1 @@
+"""mathgalley: formulas set in boxes, broken into lines, and edited at carets."""
