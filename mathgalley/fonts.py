@@ -10,6 +10,12 @@ MOST_MEASURE = 1000
 
 # The least and the greatest axis, rule, gap, shift, thin, medium, thick and step.
 LENGTH_LIMITS = ((0, 200), (1, 50), (0, 100), (0, 300), (0, 200), (0, 200), (0, 200), (1, 200))
+AXIS = 0
+RULE = 1
+GAP = 2
+SHIFT = 3
+THIN = 4
+THICK = 6
 STEP = 7
 
 
@@ -53,7 +59,7 @@ class Font:
         own = height + depth
         if own >= length:
             return own
-        step = max(1, scaled(self.lengths[STEP], style))
+        step = length_of(self, STEP, style)
         steps = (length - own + step - 1) // step
         return own + steps * step
 
@@ -61,6 +67,12 @@ class Font:
         if name not in self._entries:
             raise UnknownSymbol(name)
         return self._entries[name]
+
+
+def length_of(font, which, style):
+    """One of the lengths of a font, scaled to a style."""
+    length = scaled(font.lengths[which], style)
+    return max(1, length) if which in (RULE, STEP) else length
 
 
 def are_symbols(value):

@@ -2,7 +2,7 @@
 
 from mathgalley.errors import TooLarge, TooLong
 from mathgalley.reading import Reader, check_depth
-from mathgalley.tokens import LETTERS
+from mathgalley.tokens import LETTERS, is_symbol
 
 LONGEST = 400
 MOST_ITEMS = 80
@@ -74,6 +74,20 @@ def text_of(formula):
             parts.append(" ")
         parts.append(word)
     return "".join(parts)
+
+
+def symbols_of(formula):
+    """The names of all symbols that a formula shows, in the order of its normal text."""
+    words = row_words(formula)
+    return [word for k, word in enumerate(words) if is_shown(words, k)]
+
+
+def is_shown(words, k):
+    """Whether the token number k of a normal text is shown by a sign."""
+    word = words[k]
+    if word == "." and k > 0 and words[k - 1] in ("@left", "@right"):
+        return False
+    return is_symbol(word) or word == "@root"
 
 
 def row_words(row):

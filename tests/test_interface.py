@@ -11,6 +11,15 @@ PACKAGE = pathlib.Path(mathgalley.__file__).parent
 FUNCTIONS = {
     "sources": {"parse": ["text"], "text_of": ["formula"], "rows_of": ["formula"], "check_formula": ["formula"]},
     "fonts": {"scaled": ["number", "style"]},
+    "spacing": {"classes_of": ["font", "row"], "space_between": ["font", "left", "right", "style"]},
+    "boxes": {
+        "measure": ["font", "formula", "style"], "layout": ["font", "formula", "style"],
+        "placed_rows": ["font", "formula", "style"],
+    },
+    "breaking": {
+        "check_settings": ["value"], "chances": ["font", "formula"], "lines_of": ["font", "formula", "breaks"],
+        "cost_of": ["font", "formula", "settings", "breaks"], "break_lines": ["font", "formula", "settings"],
+    },
 }
 CLASSES = {
     "errors": {
