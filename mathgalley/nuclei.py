@@ -46,7 +46,7 @@ def widest(pieces):
 def symbol_piece(font, style, name):
     width, height, depth = font.metrics(name, style)
     piece = Piece(width, height, depth)
-    piece.put_sign(name, 0, width, height, depth)
+    piece.put_sign(name, width, height, depth)
     return piece
 
 
@@ -71,7 +71,7 @@ def root_piece(font, style, row):
     sign_width = font.metrics(ROOT_SIGN, style)[0]
     height = length - row.depth
     piece = Piece(sign_width + row.width, height, row.depth)
-    piece.put_sign(ROOT_SIGN, 0, sign_width, height, row.depth)
+    piece.put_sign(ROOT_SIGN, sign_width, height, row.depth)
     piece.put_rule(sign_width, height - rule, row.width, rule)
     piece.put(row, sign_width, 0)
     return piece
@@ -98,7 +98,7 @@ def delimiter_piece(font, style, name, row):
     height = axis + (length + 1) // 2
     depth = length // 2 - axis
     piece = Piece(width, height, depth)
-    piece.put_sign(name, 0, width, height, depth)
+    piece.put_sign(name, width, height, depth)
     return piece
 
 

@@ -17,9 +17,9 @@ class Piece:
     def box(self):
         return (self.width, self.height, self.depth)
 
-    def put_sign(self, name, x, width, height, depth):
-        """Put a sign on the baseline."""
-        self.parts.append(("sign", name, x, 0, width, height, depth))
+    def put_sign(self, name, width, height, depth):
+        """Put a sign at the left edge, on the baseline."""
+        self.parts.append(("sign", name, 0, 0, width, height, depth))
 
     def put_rule(self, x, y, width, height):
         self.parts.append(("rule", x, y, width, height))
