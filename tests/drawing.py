@@ -119,9 +119,11 @@ class Drawing:
         if not widths:
             return (width, height, depth)
         up, down = self.shifts(item, style)
-        heights = [height] + ([up + above_size[1]] if above_size else []) + ([below_size[1] - down] if below_size else [])
-        depths = [depth] + ([down + below_size[2]] if below_size else []) + ([above_size[2] - up] if above_size else [])
-        return (width + max(widths), max(heights), max(depths))
+        if above_size:
+            height, depth = max(height, up + above_size[1]), max(depth, above_size[2] - up)
+        if below_size:
+            height, depth = max(height, below_size[1] - down), max(depth, down + below_size[2])
+        return (width + max(widths), height, depth)
 
     def has_limits(self, nucleus, style):
         return style == 0 and nucleus[0] == "symbol" and self.table[nucleus[1]][0] == "op"

@@ -105,7 +105,8 @@ class Agreement(unittest.TestCase):
 
     def test_formulas_at_the_limits(self):
         font = FONTS[2]
-        for text in ("x" * 80, "{" * 7 + "}" * 7, "x" + "^{x" * 7 + "}" * 7, "@grid{&&&&&~&&&&&~&&&&&~&&&&&~&&&&&~&&&&&}",
+        for text in ("x" * 80, "{" * 7 + "}" * 7, "x" + "^{x" * 7 + "}" * 7,
+                     "@grid{&&&&&~&&&&&~&&&&&~&&&&&~&&&&&~&&&&&}",
                      "@root{" * 7 + "x" + "}" * 7, "@left(" * 7 + "x" + "@right)" * 7):
             for style in range(4):
                 self.check(font, parse(text), style)
@@ -176,11 +177,10 @@ class Everywhere(unittest.TestCase):
     def test_nothing_that_is_passed_is_changed(self):
         for font, formula, style in cases(20):
             before = (repr(formula), repr(font.symbols), repr(font.lengths))
-            results = [measure(font, formula, style), layout(font, formula, style), placed_rows(font, formula, style)]
+            results = [call(font, formula, style) for call in (measure, layout, placed_rows)]
             placed_rows(font, formula, style).clear()
             self.assertEqual((repr(formula), repr(font.symbols), repr(font.lengths)), before)
-            self.assertEqual(
-                [measure(font, formula, style), layout(font, formula, style), placed_rows(font, formula, style)], results)
+            self.assertEqual([call(font, formula, style) for call in (measure, layout, placed_rows)], results)
 
 
 class Missing(unittest.TestCase):

@@ -124,7 +124,8 @@ class Spaces(unittest.TestCase):
             for right, digit in zip(NAMES, digits):
                 for style in range(4):
                     pairs += 1
-                    self.assertEqual(space_between(FONT, left, right, style), SPACES[digit][style], (left, right, style))
+                    found = space_between(FONT, left, right, style)
+                    self.assertEqual(found, SPACES[digit][style], (left, right, style))
         self.assertEqual(pairs, 256)
 
     def test_other_lengths(self):
