@@ -43,12 +43,22 @@ class Ruler:
         firsts = [0] + [stop + 1 for stop in breaks]
         return list(zip(firsts, [*breaks, self.last]))
 
-    def check_breaks(self, breaks):
+    def cost(self, settings, breaks):
+        """The cost of breaks, or None if they do not fit."""
+        lines = self.lines(breaks)
+        if not all([self.line_fits(settings, first, last) for first, last in lines]):
+            return None
+        return sum([self.line_cost(settings, first, last) for first, last in lines[:-1]])
+
+    def are_breaks(self, value):
+        if not isinstance(value, tuple) or not all([self._is_stop(stop) for stop in value]):
+            return False
+        return all([left < right for left, right in zip(value, value[1:])])
+
+    def check_breaks(self, value):
         """Raise BadBreaks for what are no breaks."""
-        if not isinstance(breaks, tuple) or not all([self._is_stop(stop) for stop in breaks]):
-            raise BadBreaks("these are not all indices of items behind which a break is possible")
-        if any([left >= right for left, right in zip(breaks, breaks[1:])]):
-            raise BadBreaks("the indices do not ascend")
+        if not self.are_breaks(value):
+            raise BadBreaks("these are no ascending indices of items behind which a break is possible")
 
     def _is_stop(self, value):
         return is_integer(value, 0, self.last) and value in self.stops
@@ -86,16 +96,17 @@ def cost_of(font, formula, settings, breaks):
     check_settings(settings)
     ruler = Ruler(font, formula)
     ruler.check_breaks(breaks)
-    lines = ruler.lines(breaks)
-    if not all([ruler.line_fits(settings, first, last) for first, last in lines]):
-        return None
-    return sum([ruler.line_cost(settings, first, last) for first, last in lines[:-1]])
+    return ruler.cost(settings, breaks)
 
 
 def break_lines(font, formula, settings):
     """The best breaks of a formula, or None if none fit."""
     check_settings(settings)
-    ruler = Ruler(font, formula)
+    return best_breaks(Ruler(font, formula), settings)
+
+
+def best_breaks(ruler, settings):
+    """The best breaks of the formula that a ruler measures, or None if none fit."""
     best = {}
     for first in reversed(ruler.places()):
         best[first] = best_from(ruler, settings, first, best)

@@ -17,6 +17,10 @@ class Piece:
     def box(self):
         return (self.width, self.height, self.depth)
 
+    def layout(self):
+        """The pair of the box and the tuple of the parts."""
+        return (self.box(), tuple(self.parts))
+
     def put_sign(self, name, width, height, depth):
         """Put a sign at the left edge, on the baseline."""
         self.parts.append(("sign", name, 0, 0, width, height, depth))

@@ -20,6 +20,16 @@ FUNCTIONS = {
         "check_settings": ["value"], "chances": ["font", "formula"], "lines_of": ["font", "formula", "breaks"],
         "cost_of": ["font", "formula", "settings", "breaks"], "break_lines": ["font", "formula", "settings"],
     },
+    "papers": {
+        "judge_lines": ["font", "formula", "settings", "paper"],
+        "judge_breaks": ["font", "formula", "settings", "breaks", "paper"],
+        "explain_lines": ["font", "formula", "settings"],
+        "explain_breaks": ["font", "formula", "settings", "breaks"],
+    },
+    "carets": {
+        "carets": ["font", "formula", "style"], "nearest": ["font", "formula", "style", "x", "y"],
+        "caret_place": ["formula", "number"], "caret_number": ["formula", "row", "offset"],
+    },
 }
 CLASSES = {
     "errors": {
@@ -32,6 +42,15 @@ CLASSES = {
             "__init__": ["self", "symbols", "lengths"], "__eq__": ["self", "other"], "__len__": ["self"],
             "class_of": ["self", "name"], "metrics": ["self", "name", "style"],
             "stretched": ["self", "name", "style", "length"],
+        },
+    },
+    "editors": {
+        "Editor": {
+            "__init__": ["self", "font", "style"], "__len__": ["self"], "__iter__": ["self"],
+            "replace": ["self", "first", "last", "text"], "between": ["self", "first", "last"],
+            "set_style": ["self", "style"], "undo": ["self"], "redo": ["self"], "layout": ["self"],
+            "carets": ["self"], "nearest": ["self", "x", "y"], "texts": ["self"], "tried": ["self"],
+            "foresee": ["self", "first", "last", "text"],
         },
     },
 }
