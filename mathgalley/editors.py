@@ -74,11 +74,11 @@ class Editor:
 
     def layout(self):
         """The box of the formula and the parts of its layout."""
-        return self._lay_out().layout()
+        return self._laid_out().layout()
 
     def carets(self):
         """The list of (x, lower end, upper end) of the carets."""
-        return stands_of(self.font, self.formula, self._lay_out().rows)
+        return stands_of(self.font, self.formula, self._laid_out().rows)
 
     def nearest(self, x, y):
         """The number of the caret that is nearest to a point."""
@@ -109,13 +109,13 @@ class Editor:
         self.formula = formula
         self.style = style
 
-    def _lay_out(self):
+    def _laid_out(self):
         """The piece of the formula; measures what the last layout did not use."""
         setter = Setter(self.font, self.known)
         piece = setter.set_row(self.formula, self.style)
         pairs = [(text_of(row), placed[2]) for row, placed in zip(rows_of(self.formula), piece.rows)]
         self.known = {pair: setter.pieces[pair] for pair in pairs}
-        self.measured += setter.measured
+        self.measured = self.measured + setter.measured
         return piece
 
 
